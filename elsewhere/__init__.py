@@ -1,0 +1,1 @@
+"""Elsewhere: a laboratory of modal and intermediate logics."""

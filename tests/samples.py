@@ -1,0 +1,73 @@
+"""Formulas and models for tests, built in a fixed order without chance."""
+
+from elsewhere.formula import iff
+
+P = ("var", "p")
+Q = ("var", "q")
+R = ("var", "r")
+F = ("falsum",)
+T = ("implies", F, F)
+
+
+def land(a, b):
+    return ("and", a, b)
+
+
+def lor(a, b):
+    return ("or", a, b)
+
+
+def to(a, b):
+    return ("implies", a, b)
+
+
+def box(a):
+    return ("box", a)
+
+
+class Dice:
+    """Numbers that look mixed and are the same in every run."""
+
+    def __init__(self, seed):
+        self.state = seed
+
+    def below(self, bound):
+        self.state = (self.state * 6364136223846793005 + 1442695040888963407) % 2 ** 64
+        return (self.state >> 33) % bound
+
+
+def mixed_formula(dice, depth, plain=False):
+    """A formula of a height of at most `depth`."""
+    kind = dice.below(6 if plain else 8)
+    if depth == 1 or kind == 0:
+        return (P, Q, R, F)[dice.below(4)]
+    first = mixed_formula(dice, depth - 1, plain)
+    if kind >= 6:
+        return box(first)
+    if kind == 5:
+        return to(first, F)
+    second = mixed_formula(dice, depth - 1, plain)
+    return (("and", "or", "implies", "implies")[kind - 1], first, second)
+
+
+def small_formulas(rounds):
+    """Many different small formulas: all that are made of p, F in some rounds of the signs."""
+    found = [P, F]
+    for _ in range(rounds):
+        more = [box(a) for a in found]
+        more += [(sign, a, b) for sign in ("and", "or", "implies") for a in found for b in found]
+        found = sorted(set(found + more))
+    return found
+
+
+def tower(step, levels, base=P):
+    """The formula that is reached by some steps from the base."""
+    a = base
+    for _ in range(levels):
+        a = step(a)
+    return a
+
+
+def doubled_tower(levels):
+    """A formula with as few tuples as levels that stands for a great tree: each level holds the last one twice."""
+    return tower(lambda a: iff(a, P), levels)
