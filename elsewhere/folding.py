@@ -23,18 +23,13 @@ def distinct(rows):
 
 
 def levels_of(a):
-    """The list of the levels of a formula: the formula alone, its parts, the parts of these, and so on."""
+    """The levels of a formula, each an ascending list: the formula alone, its parts, the parts of these, and so on."""
     levels = []
     level = [a]
     while level:
         levels.append(level)
         level = distinct([part for b in level for part in parts_of(b)])
     return levels
-
-
-def members_of(levels):
-    """The ascending list of all formulas in a list of levels."""
-    return distinct([b for level in levels for b in level])
 
 
 def place_of(rows, row):
@@ -55,13 +50,20 @@ def folded(a, value_of):
 
     It is asked once for each different subformula, whose parts it has been asked for before.
     """
-    levels = levels_of(a)
-    # Formulas grow too deep for the keys of a dict, so each one goes by its place in this list.
-    members = members_of(levels)
-    values = {}
-    for level in reversed(levels):
+    # Formulas grow too deep for the keys of a dict: there they go by their sign and the numbers of their parts.
+    numbers = {}
+    values = []
+    below = []
+    numbers_below = []
+    for level in reversed(levels_of(a)):
+        numbers_here = []
         for b in level:
-            place = place_of(members, b)
-            if place not in values:
-                values[place] = value_of(b, [values[place_of(members, part)] for part in parts_of(b)])
-    return values[place_of(members, a)]
+            parts = [numbers_below[place_of(below, part)] for part in parts_of(b)]
+            key = b if b[0] == "var" else (b[0], *parts)
+            if key not in numbers:
+                numbers[key] = len(values)
+                values.append(value_of(b, [values[k] for k in parts]))
+            numbers_here.append(numbers[key])
+        below = level
+        numbers_below = numbers_here
+    return values[numbers_below[0]]

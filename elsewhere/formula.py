@@ -1,6 +1,6 @@
 """Formulas: tuples of a sign and of parts, compared as tuples."""
 
-from elsewhere.folding import folded, levels_of, members_of
+from elsewhere.folding import distinct, folded, levels_of
 
 FALSUM = ("falsum",)
 
@@ -73,7 +73,7 @@ def is_plain(a):
 
 def subformulas(a):
     """The ascending list of all formulas that occur in a formula, itself included."""
-    return members_of(levels_of(a))
+    return distinct([b for level in levels_of(a) for b in level])
 
 
 def variables(a):

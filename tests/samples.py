@@ -1,6 +1,8 @@
 """Formulas and models for tests, built in a fixed order without chance."""
 
 from elsewhere.formula import iff
+from elsewhere.frame import closed
+from elsewhere.model import Model
 
 P = ("var", "p")
 Q = ("var", "q")
@@ -71,3 +73,45 @@ def tower(step, levels, base=P):
 def doubled_tower(levels):
     """A formula with as few tuples as levels that stands for a great tree: each level holds the last one twice."""
     return tower(lambda a: iff(a, P), levels)
+
+
+def frames(worlds):
+    """All frames with a number of worlds."""
+    places = [(v, w) for v in range(worlds) for w in range(worlds)]
+    for k in range(2 ** len(places)):
+        yield (worlds, tuple(pair for n, pair in enumerate(places) if k >> n & 1))
+
+
+def order(*rows):
+    """The frame in which each world sees itself and those of its row, and whatever follows by transitivity."""
+    worlds = len(rows)
+    return closed((worlds, tuple((v, w) for v, row in enumerate(rows) for w in row)), True, True)
+
+
+def mixed_model(dice, worlds, names="pq"):
+    """A model of K."""
+    pairs = tuple((v, w) for v in range(worlds) for w in range(worlds) if dice.below(3) == 0)
+    values = {name: [v for v in range(worlds) if dice.below(2)] for name in names}
+    return Model((worlds, pairs), values)
+
+
+def mixed_order(dice, worlds, names="pq"):
+    """A model of Int."""
+    rows = [[w for w in range(v + 1, worlds) if dice.below(3) == 0] for v in range(worlds)]
+    frame = order(*rows)
+    values = {}
+    for name in names:
+        bases = [v for v in range(worlds) if dice.below(4) == 0]
+        values[name] = [w for v, w in frame[1] if v in bases]
+    return Model(frame, values)
+
+
+def chain(worlds, values=None):
+    """The model in which each world sees the one behind it alone."""
+    return Model((worlds, tuple((v, v + 1) for v in range(worlds - 1))), values or {})
+
+
+def told(model):
+    """What a model says of itself, to compare models."""
+    worlds = model.frame()[0]
+    return (model.frame(), model.true_worlds(), [model.seen(v) for v in range(worlds)])

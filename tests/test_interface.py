@@ -12,6 +12,17 @@ FUNCTIONS = {
         "substitute(a, values)", "replace_boxes(a, values)", "polarities(a)", "is_guarded(a, name)",
     ],
     "text": ["parse(text)", "show(a)"],
+    "frame": ["is_frame(frame)", "closed(frame, reflexive, transitive)"],
+    "model": ["truth(model, a)", "forcing(model, a)", "generated(model, v)", "disjoint(first, second)"],
+    "logics": ["is_frame_of(logic, frame)", "is_model_of(logic, model)", "holds(logic, model, a)"],
+    "bisimulation": [
+        "greatest_bisimulation(first, second)", "smallest(model)", "class_of(model)",
+        "round_of(first, v, second, w)", "telling(first, v, second, w)",
+    ],
+}
+
+CLASSES = {
+    ("model", "Model"): ["__init__(self, frame, values)", "frame(self)", "true_worlds(self)", "seen(self, v)"],
 }
 
 EXAMPLES = """
@@ -40,6 +51,29 @@ EXAMPLES = """
 >>> parse("p q")
 Traceback (most recent call last):
 elsewhere.errors.InvalidText: a sign is missing between two formulas
+
+>>> from elsewhere.model import Model
+>>> from elsewhere.model import truth
+>>> truth(Model((2, ((0, 1),)), {"p": [1]}), ("box", ("var", "p")))
+[0, 1]
+
+>>> from elsewhere.logics import is_frame_of
+>>> is_frame_of("S4", (2, ((0, 0), (0, 1), (1, 1))))
+True
+
+>>> from elsewhere.frame import closed
+>>> closed((3, ((0, 1), (1, 2))), False, True)
+(3, ((0, 1), (0, 2), (1, 2)))
+
+>>> from elsewhere.bisimulation import smallest
+>>> from elsewhere.model import Model
+>>> smallest(Model((3, ((0, 1), (0, 2))), {})).frame()
+(2, ((0, 1),))
+
+>>> from elsewhere.bisimulation import round_of
+>>> from elsewhere.model import Model
+>>> round_of(Model((1, ()), {}), 0, Model((1, ((0, 0),)), {}), 0)
+1
 """
 
 
@@ -53,6 +87,21 @@ class Interface(unittest.TestCase):
                 self.assertTrue(inspect.isfunction(found), form)
                 self.assertEqual(found.__module__, module.__name__, form)
                 self.assertEqual(name + str(inspect.signature(found)), form)
+
+    def test_methods_are_defined_in_their_classes(self):
+        for (file, name), forms in CLASSES.items():
+            module = importlib.import_module("elsewhere." + file)
+            found = getattr(module, name)
+            self.assertTrue(inspect.isclass(found), name)
+            self.assertEqual(found.__module__, module.__name__, name)
+            for form in forms:
+                method = form[:form.index("(")]
+                self.assertEqual(method + str(inspect.signature(vars(found)[method])), form)
+
+    def test_tuples_of_names(self):
+        logics = importlib.import_module("elsewhere.logics")
+        self.assertEqual(logics.MODAL, ("K", "D", "T", "K4", "D4", "S4", "S5", "GL", "Grz"))
+        self.assertEqual(logics.INTERMEDIATE, ("Int", "KC", "LC", "BD2", "HT", "Cl"))
 
     def test_examples(self):
         test = doctest.DocTestParser().get_doctest(EXAMPLES, {}, "examples", None, None)

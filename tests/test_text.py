@@ -70,7 +70,7 @@ class Tokens(ParserCase):
         for text in (
             "&", "|", "->", "<->", "~", "[]", "<>", "(", ")", "p &", "& p", "p |", "| p", "p ->", "-> p", "p <->",
             "<-> p", "p ~", "p []", "p <> q", "p ~ q", "p & | q", "p -> -> q", "p <-> <-> q", "(p", "p)", ")p(",
-            "(p))", "((p)", "(p & q", "p & (q", "~(", "~)", "[](p", "p & -> q", "~ & p", "p & ~", "p () q", "(~)p",
+            "(p))", "((p)", "(p & q", "p & (q", "~(", "~)", "[](p", "p & -> q", "~ & p", "p & ~", "p () q", "(~)p", "p (", "p ( (", "p(q", "p & q (r | q",
         ):
             self.refuses(text)
 
@@ -132,6 +132,8 @@ class Bounds(ParserCase):
         self.reads("<>" * 19 + "[]" * 2 + "p", tower(dia, 19, box(box(P))))
         self.refuses("<>" * 19 + "[]" * 3 + "p")
         self.refuses("<>" * 20 + "p")
+        self.reads("~" * 59 + "F", tower(neg, 59, F))
+        self.refuses("~" * 60 + "F")
         self.reads("~" * 58 + "T", tower(neg, 58, T))
         self.refuses("~" * 59 + "T")
         self.refuses("[]" * 59 + "T")
