@@ -24,8 +24,13 @@ def distinct(rows):
 
 def levels_of(a):
     """The levels of a formula, each an ascending list: the formula alone, its parts, the parts of these, and so on."""
+    return levels_from([a])
+
+
+def levels_from(formulas):
+    """The levels of some formulas: the different ones of them, their parts, the parts of these, and so on."""
     levels = []
-    level = [a]
+    level = distinct(formulas)
     while level:
         levels.append(level)
         level = distinct([part for b in level for part in parts_of(b)])
@@ -43,6 +48,11 @@ def place_of(rows, row):
         else:
             high = middle
     return low
+
+
+def contains(rows, row):
+    """Whether an ascending list or tuple has an item."""
+    return len(rows) > 0 and rows[place_of(rows, row)] == row
 
 
 def folded(a, value_of):

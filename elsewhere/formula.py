@@ -1,6 +1,6 @@
 """Formulas: tuples of a sign and of parts, compared as tuples."""
 
-from elsewhere.folding import distinct, folded, levels_of
+from elsewhere.folding import distinct, folded, levels_from, levels_of
 
 FALSUM = ("falsum",)
 
@@ -73,12 +73,22 @@ def is_plain(a):
 
 def subformulas(a):
     """The ascending list of all formulas that occur in a formula, itself included."""
-    return distinct([b for level in levels_of(a) for b in level])
+    return subformulas_of([a])
+
+
+def subformulas_of(formulas):
+    """The ascending list of all formulas that occur in some formulas, these included."""
+    return distinct([b for level in levels_from(formulas) for b in level])
 
 
 def variables(a):
     """The ascending list of the names of the variables of a formula."""
-    return [b[1] for b in subformulas(a) if b[0] == "var"]
+    return variables_of([a])
+
+
+def variables_of(formulas):
+    """The ascending list of the names of the variables of some formulas."""
+    return distinct([b[1] for level in levels_from(formulas) for b in level if b[0] == "var"])
 
 
 def boxes(a):

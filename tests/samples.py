@@ -115,3 +115,53 @@ def told(model):
     """What a model says of itself, to compare models."""
     worlds = model.frame()[0]
     return (model.frame(), model.true_worlds(), [model.seen(v) for v in range(worlds)])
+
+
+def _upper_rows(dice, logic, worlds):
+    """For each world of an order, some greater worlds that it sees, so that the closed frame is one of the logic."""
+    rows = []
+    for v in range(worlds):
+        above = list(range(v + 1, worlds))
+        if logic in ("Grz", "Int"):
+            rows.append([w for w in above if dice.below(3) == 0])
+        elif logic == "KC":
+            rows.append([w for w in above if w == worlds - 1 or dice.below(3) == 0])
+        elif logic == "LC":
+            rows.append([above[dice.below(len(above))]] if above and dice.below(4) else [])
+        elif logic == "BD2":
+            rows.append([w for w in above if w >= worlds // 2 and dice.below(2)] if v < worlds // 2 else [])
+        elif logic == "HT":
+            tops = [w for w in above if w >= worlds // 2]
+            rows.append([tops[dice.below(len(tops))]] if v < worlds // 2 and dice.below(4) else [])
+        else:
+            rows.append([])
+    return rows
+
+
+def mixed_frame_of(dice, logic, worlds):
+    """A frame of one of the fifteen logics."""
+    if logic in ("Grz", "Int", "KC", "LC", "BD2", "HT", "Cl"):
+        return order(*_upper_rows(dice, logic, worlds))
+    every = range(worlds)
+    pairs = [(v, w) for v in every for w in every if dice.below(3) == 0]
+    if logic == "GL":
+        pairs = [(v, w) for v, w in pairs if v < w]
+    if logic in ("D", "D4"):
+        pairs += [(v, dice.below(worlds)) for v in every]
+    if logic == "S5":
+        pairs += [(w, v) for v, w in pairs]
+    reflexive, transitive = logic in ("T", "S4", "S5"), logic not in ("K", "D", "T")
+    return closed((worlds, tuple(sorted(set(pairs)))), reflexive, transitive)
+
+
+def mixed_model_of(dice, logic, worlds, names="pq"):
+    """A model of one of the fifteen logics."""
+    frame = mixed_frame_of(dice, logic, worlds)
+    values = {}
+    for name in names:
+        if logic in ("Int", "KC", "LC", "BD2", "HT", "Cl"):
+            bases = [v for v in range(worlds) if dice.below(4) == 0]
+            values[name] = [w for v, w in frame[1] if v in bases]
+        else:
+            values[name] = [v for v in range(worlds) if dice.below(2)]
+    return Model(frame, values)

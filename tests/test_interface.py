@@ -19,6 +19,13 @@ FUNCTIONS = {
         "greatest_bisimulation(first, second)", "smallest(model)", "class_of(model)",
         "round_of(first, v, second, w)", "telling(first, v, second, w)",
     ],
+    "sequent": ["sequent(left, right)", "is_sequent(value)"],
+    "rules": ["premises_of(logic, rule, conclusion, main)"],
+    "derivation": [
+        "is_derivation(logic, steps)", "derives(logic, steps, wanted)", "first_wrong(logic, steps)",
+        "conclusion_of(steps)", "pruned(steps)", "joined(first, second, main)", "count_rule(steps, rule)",
+        "is_analytic(steps)",
+    ],
 }
 
 CLASSES = {
@@ -74,6 +81,16 @@ True
 >>> from elsewhere.model import Model
 >>> round_of(Model((1, ()), {}), 0, Model((1, ((0, 0),)), {}), 0)
 1
+
+>>> from elsewhere.rules import premises_of
+>>> from elsewhere.sequent import sequent
+>>> premises_of("K", "modal", sequent([("box", ("var", "p"))], [("box", ("var", "q"))]), ("box", ("var", "q")))
+[((('var', 'p'),), (('var', 'q'),))]
+
+>>> from elsewhere.derivation import is_derivation
+>>> from elsewhere.sequent import sequent
+>>> is_derivation("K", [("axiom", sequent([("var", "p")], [("var", "p")]), ("var", "p"), ())])
+True
 """
 
 
