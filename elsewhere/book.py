@@ -1,7 +1,6 @@
 """What a search has found to have derivations, and how the steps are written out."""
 
 from elsewhere.calculus import NO_MAIN
-from elsewhere.universe import bits
 
 
 class Found:
@@ -20,19 +19,22 @@ class Book:
     def __init__(self, calculus):
         self.calculus = calculus
         self.rows = []
+        self.numbers = {}
         self.remembered = {}
 
     def infer(self, rule, main, whole, given):
         """The number of a part of the sequent `whole` that follows by a rule from what has been found."""
         parts = [(self.rows[k].left, self.rows[k].right) for k in given]
         sides = self.calculus.part(rule, main, whole, parts)
-        self.rows.append(Found(rule, main, sides, given))
-        return len(self.rows) - 1
+        if sides not in self.numbers:
+            self.numbers[sides] = len(self.rows)
+            self.rows.append(Found(rule, main, sides, given))
+        return self.numbers[sides]
 
     def is_within(self, number, left, right):
         """Whether what was found is a part of a sequent."""
         row = self.rows[number]
-        return not row.left & ~left and not row.right & ~right
+        return not (row.left & ~left) and not (row.right & ~right)
 
     def remember(self, number):
         """Lets `part_of` find a sequent."""
@@ -43,11 +45,11 @@ class Book:
     def part_of(self, left, right):
         """The number of a remembered sequent that is a part of the given one, or -1."""
         for (own_left, own_right), number in self.remembered.items():
-            if not own_left & ~left and not own_right & ~right:
+            if not (own_left & ~left) and not (own_right & ~right):
                 return number
         return -1
 
-    def steps(self, number, left, right):
+    def written_out(self, number, left, right):
         """The derivation of a sequent of which a part was found."""
         writer = Writer(self.calculus)
         for k in self._needed(number):

@@ -104,12 +104,12 @@ class Calculus:
             return make(self, main, whole[0], whole[1], parts)
         left = right = 0
         for (more, other), (used, others) in zip(self.adds(rule, main), parts):
-            left = left | used & ~more
-            right = right | others & ~other
+            left = left | (used & ~more)
+            right = right | (others & ~other)
         if rule.endswith("_left") or rule == "reflexive":
-            return (left | 1 << main, right)
+            return (left | (1 << main), right)
         if rule.endswith("_right"):
-            return (left, right | 1 << main)
+            return (left, right | (1 << main))
         return (left, right)
 
     def names_in(self, mask):
@@ -122,7 +122,7 @@ class Calculus:
         names = self.names_in(mask)
         for k in bits(self.middles):
             if self.names[k] & names:
-                found = found | 1 << k
+                found = found | (1 << k)
         return found
 
 

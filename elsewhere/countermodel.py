@@ -22,7 +22,8 @@ def countermodel(calculus, root):
     pairs = []
     done = 0
     while done < len(worlds):
-        for node in worlds[done].above:
+        here = worlds[done]
+        for node in here.above:
             other = _standing(node)
             key = (other.left, other.right)
             if key not in places:
@@ -56,6 +57,6 @@ def _with_one_end(worlds):
 def _values(calculus, worlds, numbers):
     values = {}
     for k in bits(calculus.universe.signed["var"]):
-        true = [numbers[v] for v, node in enumerate(worlds) if node.left >> k & 1]
+        true = [numbers[v] for v, node in enumerate(worlds) if (node.left >> k) & 1]
         values[calculus.universe.formulas[k][1]] = true
     return values

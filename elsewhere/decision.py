@@ -53,9 +53,8 @@ def decide(logic, goal):
     search = Search(calculus)
     node = search.result(left, right)
     if node.state == PROVED:
-        return Decision(search.book.steps(node.proof, left, right), None, 0)
-    model = countermodel(calculus, node)
-    return Decision([], model, 0)
+        return Decision(search.book.written_out(node.proof, left, right), None, 0)
+    return Decision([], countermodel(calculus, node), 0)
 
 
 def decide_formula(logic, a):

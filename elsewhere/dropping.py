@@ -38,14 +38,14 @@ def _kept_from(calculus, left, kept):
 def _modal(calculus, main, left, right):
     inner = calculus.parts[main][0]
     if calculus.logic == "S5":
-        inner = inner | right & calculus.boxes
+        inner = inner | (right & calculus.boxes)
     return [(_kept(calculus, left) | calculus.modal_extra[main], inner)]
 
 
 def _modal_part(calculus, main, left, right, parts):
     used, others = parts[0]
     kept = _kept_from(calculus, left, used & ~calculus.modal_extra[main])
-    return (kept, others & ~calculus.parts[main][0] | 1 << main)
+    return (kept, (others & ~calculus.parts[main][0]) | (1 << main))
 
 
 def _serial(calculus, main, left, right):
@@ -70,7 +70,7 @@ def _linear_right(calculus, main, left, right):
     premises = []
     for k in bits(implications):
         a, b = calculus.parts[k]
-        premises.append((left | a, implications & ~(1 << k) | b))
+        premises.append((left | a, (implications & ~(1 << k)) | b))
     return premises
 
 
@@ -78,7 +78,7 @@ def _linear_right_part(calculus, main, left, right, parts):
     implications = right & calculus.implications
     needed = 0
     for k, (used, _) in zip(bits(implications), parts):
-        needed = needed | used & ~calculus.parts[k][0]
+        needed = needed | (used & ~calculus.parts[k][0])
     return (needed, implications)
 
 
@@ -90,8 +90,8 @@ def _depth_right(calculus, main, left, right):
 def _depth_right_part(calculus, main, left, right, parts):
     a, b = calculus.parts[main]
     (used, others), (used_last, _) = parts
-    needed = (used | used_last & ~calculus.middles) & ~a
-    needed_right = others & ~b | 1 << main
+    needed = (used | (used_last & ~calculus.middles)) & ~a
+    needed_right = (others & ~b) | (1 << main)
     return _with_names(calculus, needed, needed_right, used_last & calculus.middles, (left, right))
 
 
@@ -112,8 +112,8 @@ def _two_right_part(calculus, main, left, right, parts):
     needed_right = implications
     for k, (used, others) in zip(bits(implications), parts[:-1]):
         a, b = calculus.parts[k]
-        needed = needed | used & ~a
-        needed_right = needed_right | others & ~b
+        needed = needed | (used & ~a)
+        needed_right = needed_right | (others & ~b)
     return _with_names(calculus, needed, needed_right, used_last & calculus.middles, (left, right))
 
 
@@ -123,11 +123,11 @@ def _with_names(calculus, needed, needed_right, middles, whole):
     missing = calculus.names_in(middles) & ~calculus.names_in(needed | needed_right)
     for k in bits(left):
         if calculus.names[k] & missing:
-            needed = needed | 1 << k
+            needed = needed | (1 << k)
             missing = missing & ~calculus.names[k]
     for k in bits(right):
         if calculus.names[k] & missing:
-            needed_right = needed_right | 1 << k
+            needed_right = needed_right | (1 << k)
             missing = missing & ~calculus.names[k]
     return (needed, needed_right)
 

@@ -79,7 +79,7 @@ def _rank(calculus, left, right, adds):
     """0 for one premise, 1 if one of two is closed, 2 for other two, and 3 if some premise adds nothing."""
     closed = 0
     for more, other in adds:
-        if not more & ~left and not other & ~right:
+        if not (more & ~left) and not (other & ~right):
             return 3
         if more & right or other & left or more & calculus.falsum:
             closed = 1
@@ -93,7 +93,7 @@ def _deciding_rule(calculus, left, right):
         return ("cut", undecided[0]) if undecided else None
     for middle in calculus.weak_middles:
         whole, first, second = [calculus.universe.mask([a]) for a in (middle, middle[1], middle[2])]
-        if not left & (whole | first | second):
+        if not (left & (whole | first | second)):
             return ("weak_middle", bits(whole)[0])
     return None
 
@@ -118,7 +118,7 @@ def _modal_asks(calculus, left, right):
     asks = []
     for k in bits(right & calculus.boxes):
         # Where each world sees itself, a box needs no other world if its inner formula is refuted here.
-        if calculus.logic not in SKIPPING or not calculus.parts[k][0] & right:
+        if calculus.logic not in SKIPPING or not (calculus.parts[k][0] & right):
             asks = asks + _asks(calculus, "modal", k, (left, right), NEXT)
     if calculus.logic in ("D", "D4") and not asks:
         return _asks(calculus, "serial", NO_MAIN, (left, right), NEXT)
@@ -129,8 +129,8 @@ def waiting(calculus, left, right):
     """The mask of the implications on the right that are not refuted by the world of the saturated sequent itself."""
     found = 0
     for k in bits(right & calculus.implications):
-        if not calculus.parts[k][0] & left:
-            found = found | 1 << k
+        if not (calculus.parts[k][0] & left):
+            found = found | (1 << k)
     return found
 
 
@@ -167,7 +167,7 @@ def _two_asks(calculus, left, right):
     if not implications:
         return []
     # The implications that are refuted here anyway are weakened away: else a premise would be the conclusion itself.
-    whole = (left, right & ~calculus.implications | implications)
+    whole = (left, (right & ~calculus.implications) | implications)
     asks = _with_owners(_asks(calculus, "two_right", NO_MAIN, whole, SAME), implications)
     asks[-1].otherwise = ABOVE
     # The last premise is asked for first: it is answered fast, and tells which implications matter.

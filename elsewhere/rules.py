@@ -63,19 +63,19 @@ def _reflexive(logic, left, right, main):
 
 
 def _modal(logic, left, right, main):
-    kept = _kept(logic, left)
     inner = _parts("box", main, right)[0]
+    more = []
     if logic == "GL":
-        kept.append(main)
+        more = [main]
     if logic == "Grz":
-        kept.append(("box", ("implies", inner, main)))
+        more = [("box", ("implies", inner, main))]
     others = _signed("box", right) if logic == "S5" else []
-    return [sequent(kept, [inner, *others])]
+    return [sequent([*kept(logic, left), *more], [inner, *others])]
 
 
 def _serial(logic, left, right, main):
     _check_no_main(main)
-    return [sequent(_kept(logic, left), [])]
+    return [sequent(kept(logic, left), [])]
 
 
 def _weak_middle(logic, left, right, main):
@@ -134,7 +134,7 @@ def _implications(right):
     return found
 
 
-def _kept(logic, left):
+def kept(logic, left):
     """What the premise of "modal" and "serial" keeps of the left side."""
     boxed = _signed("box", left)
     if logic in ("S4", "S5", "Grz"):

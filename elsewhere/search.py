@@ -120,7 +120,7 @@ class Search:
     def _greater_world(self, left, right):
         """A node that stands for a world and contains a sequent, or None."""
         for node in self.worlds:
-            if not left & ~node.left and not right & ~node.right:
+            if not (left & ~node.left) and not (right & ~node.right):
                 return node
         return None
 
@@ -158,7 +158,7 @@ class Search:
         implications = right & self.calculus.implications
         fresh = self.calculus.parts[bits(ask.own)[0]][1] if ask.own else 0
         node.answers[node.place] = proof
-        node.needed = node.needed | ask.own | self.book.rows[proof].right & implications & ~fresh
+        node.needed = node.needed | ask.own | (self.book.rows[proof].right & implications & ~fresh)
         if not node.needed:
             node.needed = implications & -implications
         for place, other in enumerate(node.asks):
@@ -167,7 +167,7 @@ class Search:
                 return
         order = sorted([(other.last, other.own, place) for place, other in enumerate(node.asks)])
         given = [node.answers[place] for _, _, place in order if place in node.answers]
-        whole = (left, right & ~implications | node.needed)
+        whole = (left, (right & ~implications) | node.needed)
         self._prove(node, self.book.infer(ask.rule, NO_MAIN, whole, given))
 
     def _take_refusal(self, node, ask, child):

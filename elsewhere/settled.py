@@ -9,7 +9,7 @@ def is_settled(calculus, left, right):
     if calculus.logic not in ("BD2", "HT"):
         return False
     for k in bits(calculus.names_in(left | right)):
-        if not left & (1 << k | _negation(calculus, k)):
+        if not (left & ((1 << k) | _negation(calculus, k))):
             return False
     return True
 
@@ -49,7 +49,7 @@ class Settled:
     def _truth(self, k):
         sign, parts = self._sign_and_parts(k)
         if sign == "var":
-            return self.left >> k & 1 == 1
+            return (self.left >> k) & 1 == 1
         if sign == "falsum":
             return False
         first, second = [self.is_true(part) for part in parts]

@@ -30,7 +30,7 @@ class Universe:
         self.parts = [tuple([self.mask([b]) for b in parts_of(a)]) for a in self.formulas]
         self.signed = {"var": 0, "falsum": 0, "and": 0, "or": 0, "implies": 0, "box": 0}
         for k, a in enumerate(self.formulas):
-            self.signed[a[0]] = self.signed[a[0]] | 1 << k
+            self.signed[a[0]] = self.signed[a[0]] | (1 << k)
         self.names = [0] * len(self.formulas)
         self._fill_names(formulas)
 
@@ -38,7 +38,7 @@ class Universe:
         """The mask of some formulas, all of which are numbered."""
         found = 0
         for a in formulas:
-            found = found | 1 << place_of(self.formulas, a)
+            found = found | (1 << place_of(self.formulas, a))
         return found
 
     def side(self, mask):

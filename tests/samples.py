@@ -1,6 +1,6 @@
 """Formulas and models for tests, built in a fixed order without chance."""
 
-from elsewhere.formula import iff
+from elsewhere.formula import iff, subformulas
 from elsewhere.frame import closed
 from elsewhere.model import Model
 
@@ -165,3 +165,32 @@ def mixed_model_of(dice, logic, worlds, names="pq"):
         else:
             values[name] = [v for v in range(worlds) if dice.below(2)]
     return Model(frame, values)
+
+
+def formula_with(dice, many, plain=False):
+    """A formula with a number of different subformulas, not less than 4."""
+    while True:
+        found = [("var", name) for name in "pqrs"[:1 + dice.below(3)]] + [F][:dice.below(2)]
+        while len(found) < many:
+            a = found[-1] if dice.below(3) else found[dice.below(len(found))]
+            b = found[dice.below(len(found))]
+            if dice.below(2):
+                a, b = b, a
+            kind = dice.below(4 if plain else 6)
+            c = box(a) if kind > 3 else (("and", "or", "implies", "implies")[kind], a, b)
+            if c not in found:
+                found.append(c)
+        if len(subformulas(found[-1])) == many:
+            return found[-1]
+
+
+def boxed_formula(dice, depth):
+    """A formula with many boxes and few variables, of a height of at most `depth`."""
+    kind = dice.below(9)
+    if depth == 1 or kind == 0:
+        return (P, Q, P, F)[dice.below(4)]
+    if kind < 5:
+        return box(boxed_formula(dice, depth - 1))
+    if kind == 5:
+        return to(boxed_formula(dice, depth - 1), F)
+    return (("and", "or", "implies")[kind - 6], boxed_formula(dice, depth - 1), boxed_formula(dice, depth - 1))

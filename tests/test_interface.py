@@ -26,10 +26,21 @@ FUNCTIONS = {
         "conclusion_of(steps)", "pruned(steps)", "joined(first, second, main)", "count_rule(steps, rule)",
         "is_analytic(steps)",
     ],
+    "lines": ["write_derivation(steps)", "read_derivation(text)"],
+    "decision": [
+        "decide(logic, goal)", "decide_formula(logic, a)", "valid_in(a)", "equivalent(logic, a, b)",
+        "follows(logic, formulas, a)",
+    ],
+    "translations": [
+        "box_translation(a)", "double_negation(a)", "strong_boxes(a)", "at_reflexive(a)", "at_blind(a)",
+        "skeleton(model)", "blind_copy(model)", "seeing_copy(model)",
+    ],
+    "interpolation": ["interpolant(logic, a, b)", "simplified(a)"],
 }
 
 CLASSES = {
     ("model", "Model"): ["__init__(self, frame, values)", "frame(self)", "true_worlds(self)", "seen(self, v)"],
+    ("decision", "Decision"): ["is_valid(self)", "derivation(self)", "model(self)", "world(self)"],
 }
 
 EXAMPLES = """
@@ -91,6 +102,43 @@ True
 >>> from elsewhere.sequent import sequent
 >>> is_derivation("K", [("axiom", sequent([("var", "p")], [("var", "p")]), ("var", "p"), ())])
 True
+
+>>> from elsewhere.lines import write_derivation
+>>> from elsewhere.sequent import sequent
+>>> write_derivation([("axiom", sequent([("var", "p")], [("var", "p")]), ("var", "p"), ())])
+'axiom : p => p : p : \\n'
+
+>>> from elsewhere.decision import valid_in
+>>> from elsewhere.text import parse
+>>> valid_in(parse("[]p -> p"))
+['T', 'S4', 'S5', 'Grz']
+
+>>> from elsewhere.decision import valid_in
+>>> from elsewhere.text import parse
+>>> valid_in(parse("~p | ~~p"))
+['K', 'D', 'T', 'K4', 'D4', 'S4', 'S5', 'GL', 'Grz', 'KC', 'LC', 'HT', 'Cl']
+
+>>> from elsewhere.decision import decide_formula
+>>> from elsewhere.text import parse
+>>> decide_formula("Int", parse("p | ~p")).is_valid()
+False
+
+>>> from elsewhere.text import parse
+>>> from elsewhere.text import show
+>>> from elsewhere.translations import box_translation
+>>> show(box_translation(parse("p -> q")))
+'[]([]p -> []q)'
+
+>>> from elsewhere.text import parse
+>>> from elsewhere.text import show
+>>> from elsewhere.translations import double_negation
+>>> show(double_negation(parse("p | q")))
+'~(~~~p & ~~~q)'
+
+>>> from elsewhere.interpolation import simplified
+>>> from elsewhere.text import parse
+>>> simplified(parse("(p & T) | F"))
+('var', 'p')
 """
 
 

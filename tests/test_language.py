@@ -198,6 +198,25 @@ class Language(unittest.TestCase):
             elif isinstance(node.ctx, ast.Load):
                 self.assertIn(node.attr, stored, where)
 
+    def test_no_name_is_a_method_and_an_attribute(self):
+        own = {node.name for tree in self.trees.values() for c in ast.walk(tree) if isinstance(c, ast.ClassDef)
+               for node in c.body if isinstance(node, ast.FunctionDef)}
+        stored = {node.attr for node, _ in self.each_node(ast.Attribute) if isinstance(node.ctx, ast.Store)}
+        self.assertFalse(own & stored)
+
+    def test_tables_are_not_passed_on(self):
+        for path, tree in self.trees.items():
+            tables = {node.targets[0].id for node in tree.body if isinstance(node, ast.Assign)
+                      and isinstance(node.value, (ast.Dict, ast.List))}
+            for node in ast.walk(tree):
+                given = []
+                if isinstance(node, ast.Call) and not (isinstance(node.func, ast.Name) and node.func.id in BUILTINS):
+                    given = node.args
+                elif isinstance(node, (ast.Return, ast.Assign)):
+                    given = [node.value]
+                for value in given:
+                    self.assertFalse(isinstance(value, ast.Name) and value.id in tables, f"{path}:{node.lineno}")
+
     def test_words(self):
         for path, tree in self.trees.items():
             names = {node.id for node in ast.walk(tree) if isinstance(node, ast.Name)}
