@@ -2,7 +2,9 @@
 
 For each of them there are two functions. One gives the premises of a conclusion. The other one gets a conclusion and,
 for each premise, a part of it that has a derivation; it gives a part of the conclusion, as small as it can be seen,
-whose premises still have these parts.
+whose premises still have these parts. (The premises of "depth_right" and "two_right" have the excluded middles of the
+variables that occur in the conclusion. A search uses such a formula only if it needs both of its sides, and each of
+them only beside another formula with this variable; so this variable occurs in the part, too.)
 """
 
 from elsewhere.universe import bits
@@ -25,8 +27,6 @@ def _kept(calculus, left):
 
 def _kept_from(calculus, left, kept):
     """The formulas of a left side that are needed to keep some formulas."""
-    if calculus.logic in KEEP_BOXES:
-        return kept
     found = 0
     if calculus.logic not in KEEP_INNER:
         found = kept & left & calculus.boxes
@@ -91,8 +91,7 @@ def _depth_right_part(calculus, main, left, right, parts):
     a, b = calculus.parts[main]
     (used, others), (used_last, _) = parts
     needed = (used | (used_last & ~calculus.middles)) & ~a
-    needed_right = (others & ~b) | (1 << main)
-    return _with_names(calculus, needed, needed_right, used_last & calculus.middles, (left, right))
+    return (needed, (others & ~b) | (1 << main))
 
 
 def _two_right(calculus, main, left, right):
@@ -114,21 +113,6 @@ def _two_right_part(calculus, main, left, right, parts):
         a, b = calculus.parts[k]
         needed = needed | (used & ~a)
         needed_right = needed_right | (others & ~b)
-    return _with_names(calculus, needed, needed_right, used_last & calculus.middles, (left, right))
-
-
-def _with_names(calculus, needed, needed_right, middles, whole):
-    """Both sides with what else is needed so that the variables of some excluded middles occur in them."""
-    left, right = whole
-    missing = calculus.names_in(middles) & ~calculus.names_in(needed | needed_right)
-    for k in bits(left):
-        if calculus.names[k] & missing:
-            needed = needed | (1 << k)
-            missing = missing & ~calculus.names[k]
-    for k in bits(right):
-        if calculus.names[k] & missing:
-            needed_right = needed_right | (1 << k)
-            missing = missing & ~calculus.names[k]
     return (needed, needed_right)
 
 

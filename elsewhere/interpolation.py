@@ -1,9 +1,9 @@
 """Interpolants with the derivations of both halves, and simpler forms of formulas."""
 
 from elsewhere.decision import decide
-from elsewhere.errors import NoInterpolants, NotPlain
+from elsewhere.errors import NoInterpolants
 from elsewhere.folding import folded
-from elsewhere.formula import FALSUM, is_plain, verum
+from elsewhere.formula import FALSUM, verum
 from elsewhere.halves import Halves
 from elsewhere.logics import check_logic
 
@@ -15,8 +15,7 @@ def interpolant(logic, a, b):
     check_logic(logic)
     if logic not in LOGICS:
         raise NoInterpolants("the logic is none of those with interpolants")
-    if logic == "Cl" and not (is_plain(a) and is_plain(b)):
-        raise NotPlain("a formula has a box")
+    # These raise NotPlain and NotValid.
     steps = decide(logic, ((a,), (b,))).derivation()
     halves = Halves(logic)
     c, first, second = halves.of_derivation(steps, (((a,), ()), ((), (b,))))

@@ -40,8 +40,6 @@ def _formulas_of(steps):
 
 def read_derivation(text):
     """The list of steps that has a text."""
-    if text == "":
-        return []
     lines = text.split("\n")
     if lines.pop() != "":
         raise InvalidText("the last line does not end")

@@ -81,7 +81,7 @@ def _rank(calculus, left, right, adds):
     for more, other in adds:
         if not (more & ~left) and not (other & ~right):
             return 3
-        if more & right or other & left or more & calculus.falsum:
+        if (more & right) or (other & left) or (more & calculus.falsum):
             closed = 1
     return 0 if len(adds) == 1 else 2 - closed
 
@@ -109,8 +109,7 @@ def branching_asks(calculus, left, right):
         return _depth_asks(calculus, left, right)
     if logic == "HT":
         return _two_asks(calculus, left, right)
-    if logic == "Cl":
-        return []
+    # In Cl there are no boxes, and so nothing is left to be asked.
     return _modal_asks(calculus, left, right)
 
 
@@ -169,6 +168,7 @@ def _two_asks(calculus, left, right):
     # The implications that are refuted here anyway are weakened away: else a premise would be the conclusion itself.
     whole = (left, (right & ~calculus.implications) | implications)
     asks = _with_owners(_asks(calculus, "two_right", NO_MAIN, whole, SAME), implications)
-    asks[-1].otherwise = ABOVE
+    above = asks.pop()
+    above.otherwise = ABOVE
     # The last premise is asked for first: it is answered fast, and tells which implications matter.
-    return [asks[-1], *asks[:-1]]
+    return [above, *asks]

@@ -16,7 +16,6 @@ from elsewhere.settled import is_settled, settled_proof
 from elsewhere.universe import bits
 
 JOINT = ("linear_right", "two_right")
-SHALLOW = ("BD2", "HT")
 
 NEW = 0
 BUSY = 1
@@ -206,6 +205,5 @@ class Search:
 
     def _refute_for_good(self, node):
         node.state = REFUTED
-        # Below others may only be an end where there are no three worlds in a row.
-        if node.same is None and not (node.above and self.calculus.logic in SHALLOW):
+        if node.same is None:
             self.worlds.append(node)

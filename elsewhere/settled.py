@@ -1,6 +1,7 @@
 """Sequents on whose left side each variable or its negation stands: there classical truth tells everything."""
 
 from elsewhere.calculus import NO_MAIN
+from elsewhere.formula import neg
 from elsewhere.universe import bits
 
 
@@ -15,7 +16,7 @@ def is_settled(calculus, left, right):
 
 
 def _negation(calculus, k):
-    return calculus.universe.mask([("implies", calculus.universe.formulas[k], ("falsum",))])
+    return calculus.universe.mask([neg(calculus.universe.formulas[k])])
 
 
 def settled_proof(book, left, right):

@@ -144,6 +144,31 @@ class Answers(Case):
                 left, right = ([boxed_formula(dice, 3 + k % 4) for _ in range(dice.below(3))] for _ in range(2))
                 self.answer(logic, sequent(left, right))
 
+    def test_answers_that_rest_on_unfinished_ones(self):
+        # Here a search that keeps each answer it finds below an unfinished sequent comes to wrong models.
+        for logics, left, right in (
+            (("K4", "D4"), ("[]~p", "[](~[]r | ~[]~r)", "[]([]~p | []~p | ~[]q)", "[](~[]s | p | ~r)",
+                            "[](p | ~[]~r | []p)", "[](s | []p | []~r)", "[](s | ~[]q)", "~[]r"), ("[]p", "~r")),
+            (("D4",), ("[]~s", "[]([]q | ~s)", "[]([]s | r)", "[](~[]~p | ~s)", "[](~[]~q | ~[]~s | ~[]~q)",
+                       "[](~[]~r | r | ~p)", "[](~[]~s | ~[]~p | ~q)", "[](~p | ~[]r | ~[]r)", "s"), ()),
+        ):
+            goal = sequent([parse(text) for text in left], [parse(text) for text in right])
+            for logic in logics:
+                self.assertTrue(self.answer(logic, goal), (logic, goal))
+                for k in range(len(goal[0])):
+                    self.answer(logic, (goal[0][:k] + goal[0][k + 1:], goal[1]))
+
+    def test_boxed_clauses(self):
+        dice = Dice(68)
+
+        def literal():
+            a = [P, Q, R, ("var", "s")][dice.below(4)]
+            return (a, neg(a), box(a), neg(box(a)), box(neg(a)), neg(box(neg(a))))[dice.below(6)]
+        for logic in MODAL:
+            for k in range(60):
+                left = [box(lor(literal(), lor(literal(), literal()))) for _ in range(3 + k % 5)]
+                self.answer(logic, sequent(left + [literal()], [literal()][:dice.below(2)]))
+
     def test_many_implications(self):
         dice = Dice(64)
 

@@ -217,6 +217,11 @@ class Language(unittest.TestCase):
                 for value in given:
                     self.assertFalse(isinstance(value, ast.Name) and value.id in tables, f"{path}:{node.lineno}")
 
+    def test_attributes_are_assigned_through_local_names(self):
+        for node, where in self.each_node(ast.Attribute):
+            if isinstance(node.ctx, ast.Store):
+                self.assertIsInstance(node.value, ast.Name, where)
+
     def test_words(self):
         for path, tree in self.trees.items():
             names = {node.id for node in ast.walk(tree) if isinstance(node, ast.Name)}
