@@ -25,16 +25,17 @@ def interpolant(logic, a, b):
 
 def simplified(a):
     """The formula without parts that are always or never true beside others, and without equal parts."""
-    def value_of(b, parts):
-        if b[0] == "var":
-            return b
-        if b[0] == "box":
-            return verum() if parts[0] == verum() else ("box", parts[0])
-        if b[0] == "falsum":
-            return b
-        simpler = SIMPLER[b[0]]
-        return simpler(parts[0], parts[1])
-    return folded(a, value_of)
+    return folded(a, simplified_from)
+
+
+def simplified_from(a, parts):
+    """The simplified form of a formula from those of its parts."""
+    if a[0] in ("var", "falsum"):
+        return a
+    if a[0] == "box":
+        return verum() if parts[0] == verum() else ("box", parts[0])
+    simpler = SIMPLER[a[0]]
+    return simpler(parts[0], parts[1])
 
 
 def _simpler_and(a, b):

@@ -10,6 +10,11 @@ DIGITS = "0123456789"
 LONGEST_NUMBER = 9
 
 
+def write_side(side):
+    """The text of the formulas of a side of a sequent."""
+    return ", ".join([show(a) for a in side])
+
+
 def write_derivation(steps):
     """The text of a list of steps."""
     formulas = distinct(_formulas_of(steps))
@@ -57,23 +62,22 @@ def _step(line, known):
         raise InvalidText("a rule is no text of letters and underscores")
     formula = None if main == "-" else _formula(main, known)
     given = numbers.split(" ") if numbers != "" else []
-    return (rule, _sequent(sides, known), formula, tuple([_number(word) for word in given]))
+    return (rule, _sequent(sides, known), formula, tuple([read_number(word, LONGEST_NUMBER) for word in given]))
 
 
 def _sequent(text, known):
     sides = text.split(" => ")
     if len(sides) != 2:
         raise InvalidText("a sequent does not have two sides")
-    left, right = [_side(side, known) for side in sides]
-    if not is_sequent((left, right)):
+    return (read_side(sides[0], known), read_side(sides[1], known))
+
+
+def read_side(text, known):
+    """The formulas of a side of a sequent; those whose texts are read are put into the dict `known`."""
+    side = tuple([_formula(word, known) for word in text.split(", ")]) if text != "" else ()
+    if not is_sequent((side, ())):
         raise InvalidText("the formulas of a side do not ascend")
-    return (left, right)
-
-
-def _side(text, known):
-    if text == "":
-        return ()
-    return tuple([_formula(word, known) for word in text.split(", ")])
+    return side
 
 
 def _formula(text, known):
@@ -85,8 +89,9 @@ def _formula(text, known):
     return known[text]
 
 
-def _number(word):
-    if not 1 <= len(word) <= LONGEST_NUMBER or not all([digit in DIGITS for digit in word]):
+def read_number(word, longest):
+    """The number with a decimal form that has no more digits than the longest one."""
+    if not 1 <= len(word) <= longest or not all([digit in DIGITS for digit in word]):
         raise InvalidText("a number is missing or has other characters than digits, or too many")
     if word[0] == "0" and word != "0":
         raise InvalidText("a number has a leading zero")

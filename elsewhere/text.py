@@ -54,13 +54,16 @@ def _token_at(text, at):
     while end < len(text) and (text[end] in LETTERS or text[end] in DIGITS):
         end += 1
     name = text[at:end]
-    if not _is_name(name):
+    if not is_name(name):
         raise InvalidText("no token begins here")
     return name
 
 
-def _is_name(word):
-    return 1 <= len(word) <= LONGEST_NAME and word[0] in LETTERS
+def is_name(word):
+    """Whether a text is the name of a variable."""
+    if not 1 <= len(word) <= LONGEST_NAME or word[0] not in LETTERS:
+        return False
+    return all([letter in LETTERS or letter in DIGITS for letter in word])
 
 
 # Below, the items of a row are tokens without brackets, and, in place of each pair of brackets, the tuple of the
@@ -127,7 +130,7 @@ def _atom(item):
         return (FALSUM, 1)
     if item == "T":
         return (verum(), 2)
-    if not _is_name(item):
+    if not is_name(item):
         raise InvalidText("a formula is missing")
     return (("var", item), 1)
 

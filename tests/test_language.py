@@ -244,6 +244,23 @@ class Language(unittest.TestCase):
         for node, where in self.each_node(ast.Return):
             self.assertFalse(node.value is not None and is_set(node.value), where)
 
+    def test_stars_and_views(self):
+        for node, where in self.each_node(ast.Set):
+            self.assertFalse(any(isinstance(item, ast.Starred) for item in node.elts), where)
+        for node, where in self.each_node(ast.Call):
+            if isinstance(node.func, ast.Attribute) and node.func.attr in ("keys", "values", "items"):
+                self.assertFalse(node.args or node.keywords, where)
+            if isinstance(node.func, ast.Attribute) and node.func.attr in METHODS:
+                self.assertFalse([word for word in node.keywords if node.func.attr != "sort"], where)
+
+    def test_literals_at_module_level(self):
+        for path, tree in self.trees.items():
+            functions = {node.name for node in tree.body if isinstance(node, ast.FunctionDef)}
+            for node in tree.body:
+                if isinstance(node, ast.Assign):
+                    names = {n.id for n in ast.walk(node.value) if isinstance(n, ast.Name)}
+                    self.assertLessEqual(names, functions, f"{path}:{node.lineno}")
+
     def test_calls_of_one_line_lambdas(self):
         for path, tree in self.trees.items():
             lines = [node.lineno for node in ast.walk(tree) if isinstance(node, ast.Lambda)]
