@@ -36,11 +36,28 @@ FUNCTIONS = {
         "skeleton(model)", "blind_copy(model)", "seeing_copy(model)",
     ],
     "interpolation": ["interpolant(logic, a, b)", "simplified(a)"],
+    "provability": [
+        "true_at_rank(a, rank)", "rank_list(a)", "normal_form(a)", "box_power(n)", "of_ranks(answers)",
+        "fixed_point(a, name)",
+    ],
+    "papers": [
+        "write_model(model)", "read_model(text)", "write_paper(logic, goal)", "paper_holds(text)", "paper_answer(text)",
+        "answers(text)",
+    ],
+    "terms": ["type_of(context, term)", "weight(term)", "lifted(term, by, above)", "put(term, value)"],
+    "reduction": ["redexes(term)", "step(term)", "normal(term)"],
+    "reading": ["derivation_of(context, term)", "term_of(context, steps)", "term_for(a)"],
+    "console": ["run_console(text)"],
 }
 
 CLASSES = {
     ("model", "Model"): ["__init__(self, frame, values)", "frame(self)", "true_worlds(self)", "seen(self, v)"],
     ("decision", "Decision"): ["is_valid(self)", "derivation(self)", "model(self)", "world(self)"],
+    ("theory", "Theory"): [
+        "__init__(self, logic)", "assume(self, a)", "drop(self, a)", "axioms(self)", "ask(self, a)",
+        "is_consistent(self)", "model(self)", "redundant(self)", "core(self, a)", "independent(self)",
+        "compare(self, other)",
+    ],
 }
 
 EXAMPLES = """
@@ -139,6 +156,48 @@ False
 >>> from elsewhere.text import parse
 >>> simplified(parse("(p & T) | F"))
 ('var', 'p')
+
+>>> from elsewhere.provability import rank_list
+>>> from elsewhere.text import parse
+>>> rank_list(parse("[]F -> [][]F & F"))
+[False, True, True]
+
+>>> from elsewhere.provability import true_at_rank
+>>> from elsewhere.text import parse
+>>> true_at_rank(parse("~[]F"), 0)
+False
+
+>>> from elsewhere.model import Model
+>>> from elsewhere.papers import write_model
+>>> write_model(Model((2, ((0, 1),)), {"p": [1]}))
+'worlds 2\\nsees 0 1\\ntrue p 1\\n'
+
+>>> from elsewhere.papers import paper_holds
+>>> paper_holds("logic K\\nleft p\\nright p\\nderivation\\naxiom : p => p : p : \\n")
+True
+
+>>> from elsewhere.terms import type_of
+>>> type_of([], ("fun", ("var", "p"), ("at", 0)))
+('implies', ('var', 'p'), ('var', 'p'))
+
+>>> from elsewhere.reduction import normal
+>>> normal(("first", ("pair", ("at", 0), ("at", 1))))
+('at', 0)
+
+>>> from elsewhere.reading import term_for
+>>> from elsewhere.text import parse
+>>> term_for(parse("p -> p"))
+('fun', ('var', 'p'), ('at', 0))
+
+>>> from elsewhere.console import run_console
+>>> run_console("logic K\\nassume p\\nassume p -> q\\nask q\\nask r\\n")
+'added\\nadded\\nyes 2\\nno\\n'
+
+>>> from elsewhere.text import parse
+>>> from elsewhere.theory import Theory
+>>> t = Theory("Int")
+>>> t.assume(parse("p"))
+True
 """
 
 
