@@ -18,11 +18,11 @@ def rank_list(a):
     """The list of the answers for the ranks up to the modal depth of a formula without variables."""
     if variables(a):
         raise HasVariables("truth does not depend on ranks alone")
-    ranks = range(modal_depth(a) + 1)
+    many = modal_depth(a) + 1
 
     def value_of(b, parts):
         if b[0] == "falsum":
-            return [False for _ in ranks]
+            return [False] * many
         if b[0] == "box":
             return _below(parts[0])
         left, right = parts

@@ -42,6 +42,10 @@ WORDS = set(
 DUNDERS = set(
     "__init__ __eq__ __repr__ __str__ __len__ __enter__ __exit__ __call__ __iter__".split()
 )
+VIEWS = ("items", "keys", "values")
+WALKS = ("range", "zip", "enumerate", "reversed")
+WALKERS = set("list tuple dict sorted sum any all enumerate zip min max".split())
+INNER = (ast.FunctionDef, ast.Lambda, ast.GeneratorExp)
 FORBIDDEN = (
     ast.Global, ast.AsyncFunctionDef, ast.AsyncFor, ast.AsyncWith, ast.Await, ast.Div, ast.MatMult, ast.Import,
 )
@@ -70,6 +74,95 @@ def top_names(tree):
         elif isinstance(node, ast.Assign):
             found += [target.id for target in node.targets]
     return found
+
+
+def walk_of(node):
+    """The word of a range, a zip or a view, with "reversed" and the like, or None for other nodes."""
+    if isinstance(node, ast.Call):
+        if isinstance(node.func, ast.Name) and node.func.id in WALKS:
+            return node.func.id
+        if isinstance(node.func, ast.Attribute) and node.func.attr in VIEWS:
+            return node.func.attr
+    return None
+
+
+def parents_of(tree):
+    return {id(part): node for node in ast.walk(tree) for part in ast.iter_child_nodes(node)}
+
+
+def is_walked(node, word, parent):
+    """Whether a range, a zip or a view, or a name that keeps one, is iterated or asked where it stands."""
+    if isinstance(parent, (ast.For, ast.comprehension)):
+        return parent.iter is node
+    if isinstance(parent, ast.Compare):
+        return word in ("range", "keys") and node is not parent.left and all(
+            isinstance(sign, (ast.In, ast.NotIn)) for sign in parent.ops)
+    if not isinstance(parent, ast.Call) or not parent.args or parent.args[0] is not node:
+        return False
+    if isinstance(parent.func, ast.Attribute):
+        return parent.func.attr == "join" and isinstance(parent.func.value, ast.Constant)
+    by = parent.func.id if isinstance(parent.func, ast.Name) else ""
+    if by in ("min", "max"):
+        return len(parent.args) == 1
+    return by in WALKERS or (by == "len" and word in ("range",) + VIEWS) or (by == "reversed" and word == "range")
+
+
+def kept_by(node, parent):
+    """The plain name to which a statement of its own assigns a node, or None."""
+    if isinstance(parent, ast.Assign) and parent.value is node and len(parent.targets) == 1:
+        target = parent.targets[0]
+        return target.id if isinstance(target, ast.Name) else None
+    return None
+
+
+def nodes_of(function):
+    """The nodes of a function outside of its nested functions, lambdas and generator expressions, and those inside."""
+    own, inside = [], []
+    rest = [(part, False) for part in ast.iter_child_nodes(function)]
+    while rest:
+        node, is_inside = rest.pop()
+        (inside if is_inside else own).append(node)
+        rest += [(part, is_inside or isinstance(node, INNER)) for part in ast.iter_child_nodes(node)]
+    return own, inside
+
+
+def reads(nodes, name):
+    return [node for node in nodes if isinstance(node, ast.Name) and node.id == name and isinstance(node.ctx, ast.Load)]
+
+
+def kept_faults(function, parents):
+    """The places at which a function keeps or uses a range, a zip or a view against rule L23."""
+    faults = []
+    own, inside = nodes_of(function)
+    for call in [node for node in own if walk_of(node)]:
+        name = kept_by(call, parents[id(call)])
+        if name is None:
+            continue
+        word = walk_of(call)
+        stores = [n for n in own if isinstance(n, ast.Name) and n.id == name and isinstance(n.ctx, ast.Store)]
+        if len(stores) > 1:
+            faults.append((call.lineno, f"{name} is assigned again"))
+        faults += [(n.lineno, f"{name} is read in an inner function") for n in reads(inside, name)]
+        for node in reads(own, name):
+            parent = parents[id(node)]
+            index = isinstance(parent, ast.Subscript) and parent.value is node and word == "range"
+            if not index and not is_walked(node, word, parent):
+                faults.append((node.lineno, f"{name} is not iterated"))
+    return faults
+
+
+def walk_faults(tree):
+    """All faults of a file against rule L23 about ranges, zips and views."""
+    parents = parents_of(tree)
+    faults = []
+    for node in ast.walk(tree):
+        if walk_of(node):
+            parent = parents[id(node)]
+            if not is_walked(node, walk_of(node), parent) and kept_by(node, parent) is None:
+                faults.append((node.lineno, f"{ast.unparse(node)} is neither iterated nor kept"))
+        if isinstance(node, ast.FunctionDef):
+            faults += kept_faults(node, parents)
+    return sorted(faults)
 
 
 class Language(unittest.TestCase):
@@ -243,6 +336,48 @@ class Language(unittest.TestCase):
             self.assertFalse(is_set(node.iter), where)
         for node, where in self.each_node(ast.Return):
             self.assertFalse(node.value is not None and is_set(node.value), where)
+
+    def test_ranges_zips_and_views(self):
+        for path, tree in self.trees.items():
+            self.assertEqual(walk_faults(tree), [], path)
+
+    def test_ranges_zips_and_views_of_samples(self):
+        wrong = (
+            "    ks = range(n)\n    def g():\n        return [0 for _ in ks]\n    return g",
+            "    ks = range(n)\n    return lambda: [k for k in ks]",
+            "    ks = range(n)\n    return sum(k for k in ks)",
+            "    ks = zip(n, n)\n    def g():\n        for k in ks:\n            h(k)\n    g()",
+            "    ks = enumerate(n)\n    def g():\n        def h():\n            return list(ks)\n        return h",
+            "    ks = reversed(n)\n    return lambda: list(ks)",
+            "    ks = n.items()\n    return any(k in m for k, m in ks)",
+            "    ks = n.keys()\n    def g():\n        return sorted(ks)\n    return g()",
+            "    ks = n.values()\n    return lambda k: k in ks",
+            "    ks = range(n)\n    return ks",
+            "    ks = range(n)\n    return g(ks)",
+            "    ks = range(n)\n    return [ks]",
+            "    ks = range(n)\n    if ks:\n        return 1",
+            "    ks = range(n)\n    return ks == n",
+            "    ks = range(n)\n    ks = range(3)\n    return list(ks)",
+            "    ks: object = range(n)\n    return list(ks)",
+            "    ks = n.items()\n    return ks[0]",
+            "    return range(n)",
+            "    return g(n.keys())",
+            "    n.ks = range(3)",
+            "    return range(n) if n else []",
+            "    return max(range(n), 3)",
+        )
+        for body in wrong:
+            self.assertTrue(walk_faults(ast.parse("def f(n):\n" + body)), body)
+        right = (
+            "    ks = n + 1\n    def g():\n        return [False] * ks\n    return g",
+            "    ks = list(range(n))\n    def g():\n        return [0 for _ in ks]\n    return g",
+            "    def g():\n        ks = range(n)\n        return [ks[0], len(ks)] + [k for k in ks]\n    return g",
+            "    ks = range(n)\n    for k in ks:\n        if k + 1 in ks:\n            return list(reversed(ks))",
+            "    ks = zip(n, n)\n    return dict(ks)",
+            "    return len(n.items()) + max(range(n)) + len(', '.join(n.keys()))",
+        )
+        for body in right:
+            self.assertEqual(walk_faults(ast.parse("def f(n):\n" + body)), [], body)
 
     def test_stars_and_views(self):
         for node, where in self.each_node(ast.Set):
